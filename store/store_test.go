@@ -540,6 +540,37 @@ func TestManyRows(t *testing.T) {
 	}
 }
 
+// TestTooManyRows: beyond that number a checkpoint could not be read back, so it is refused, and the log goes on.
+func TestTooManyRows(t *testing.T) {
+	for what, last := range map[string]api.Batch{
+		"one row more":    {Key: "last"},
+		"one branch more": {Key: "00000", Expect: 1, Writes: []api.Write{{Branch: "last"}}},
+	} {
+		d := newDisk(t, api.MaxRoom)
+		s := open(t, d, 100000)
+		for n := range 10000 {
+			key := fmt.Sprintf("%05d", n)
+			commit(t, s, api.Batch{Key: key, Writes: []api.Write{{Branch: "h" + key}}})
+		}
+		must(t, s.Checkpoint())
+		commit(t, s, last)
+		image, was := s.Image(), d.Copy()
+		want(t, what, s.Checkpoint(), api.ErrArg)
+		if !bytes.Equal(s.Image(), image) || !sameDisk(d, was) || s.Stopped() {
+			t.Errorf("%s: it has changed something", what)
+		}
+		stands(t, what, s, 10001, 10000)
+		must(t, s.Sync(), d.Crash(nil))
+		s = open(t, d, 100000)
+		if !bytes.Equal(s.Image(), image) {
+			t.Errorf("%s: opened, it has something else", what)
+		}
+		must(t, d.Fuse(0))
+		want(t, what, s.Sync(), api.ErrDead)
+		want(t, what+", stopped", s.Checkpoint(), api.ErrDead)
+	}
+}
+
 func TestAStoreThatHasStopped(t *testing.T) {
 	l := few()
 	made := rowsOf(t, l)
